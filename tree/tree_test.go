@@ -324,3 +324,25 @@ func TestHeight(t *testing.T) {
 		}
 	}
 }
+
+// TestWalkFrom: what stands above goes through a tree from a key on: all that is not below it comes, in order, till it is told to end.
+func TestWalkFrom(t *testing.T) {
+	for _, n := range []int{0, 1, 2, 60, 700, 3000} {
+		l := many(n)
+		u := of(t, l)
+		for _, from := range []string{"", "\x00", "k", "k10000", "k10000\x00", "k10001", "k10031", "k10059", "k1006", "k10699", "k10699\x00", "k107", "l", strings.Repeat("k", 41), "\xff"} {
+			want := slices.DeleteFunc(many(n), func(e api.Entry) bool { return e.Key < from })
+			for _, most := range []int{1, 2, 3, 40, 699, 701} {
+				var got []api.Entry
+				tree.Walk(u, from, func(e api.Entry) bool {
+					got = append(got, e)
+					return len(got) < most
+				})
+				if !slices.Equal(got, want[:min(most, len(want))]) {
+					t.Fatalf("Walk, of %d entries from %q on, %d of them: %.200q", n, from, most, got)
+				}
+			}
+		}
+		has(t, u, l)
+	}
+}
