@@ -24,7 +24,7 @@ func (n Node) IsLeaf() bool { return n.n.isLeaf() }
 func (n Node) Size() int { return n.n.size() }
 
 // Cells are a leaf's; a branch has none.
-func (n Node) Cells() []api.Entry { return slices.Clone(n.n.cells) }
+func (n Node) Cells() []api.Entry { return withCells(nil, n.n.cells) }
 
 // Keys are those between a branch's kids; a leaf has none.
 func (n Node) Keys() []string { return slices.Clone(n.n.keys) }
@@ -38,20 +38,20 @@ func (n Node) Kids() []Node {
 	return l
 }
 
-// Leaf is a leaf with cells.
-func Leaf(cells []api.Entry) Node { return Node{node{cells: slices.Clone(cells)}} }
-
-// Branch is a branch with kids, and the keys between these.
-func Branch(keys []string, kids []Node) Node {
-	n := node{keys: slices.Clone(keys)}
-	for _, kid := range kids {
-		n.kids = append(n.kids, &kid.n)
+// Leaf is a leaf with cells, that lies on no page.
+func Leaf(cells []api.Entry) Node {
+	var l []Cell
+	for _, e := range cells {
+		l = append(l, Cell{Entry: e})
 	}
-	return Node{n}
+	return LeafAt(0, l)
 }
 
+// Branch is a branch that lies on no page, with kids, and the keys between these.
+func Branch(keys []string, kids []Node) Node { return BranchAt(0, keys, kids) }
+
 // Over is the tree with a root. Nodes are taken as they are: who makes them sees to it that the tree is right.
-// Of one that is not, nothing may be asked but what stands in this file, Len, All and Height, and what shape tells of it.
+// Of one that is not, nothing may be asked but what stands in this file and in place.go, Len, All and Height, and what shape tells of it.
 func Over(root Node) Tree {
 	t := Tree{root: &root.n}
 	t.count = len(gathered(nil, t.root))

@@ -3,14 +3,13 @@ package tree
 import (
 	"slices"
 
-	"warren/api"
 	"warren/branch"
 	"warren/fill"
 )
 
 // replaced is a node with other cells in the place of a key's, be that there or not.
 // All that stands below it is right; it may itself have too many bytes, or too few.
-func replaced(n *node, key string, others []api.Entry) *node {
+func replaced(n *node, key string, others []Cell) *node {
 	if !n.isLeaf() {
 		at := branch.Way(n.keys, key)
 		return mended(n, at, replaced(n.kids[at], key, others))

@@ -3,7 +3,6 @@ package tree
 import (
 	"sort"
 
-	"warren/api"
 	"warren/branch"
 	"warren/leaf"
 	"warren/varint"
@@ -11,7 +10,8 @@ import (
 
 // node is a leaf with cells, or a branch with kids, and the keys between these; it is never changed, for trees share it.
 type node struct {
-	cells []api.Entry
+	page  int // where it lies, with all below it; 0: nowhere yet
+	cells []Cell
 	keys  []string
 	kids  []*node
 }
@@ -49,7 +49,7 @@ func (n *node) size() int {
 }
 
 // find is the place of a key among cells, and whether it is there; else where it would be.
-func find(cells []api.Entry, key string) (int, bool) {
+func find(cells []Cell, key string) (int, bool) {
 	at := sort.Search(len(cells), func(i int) bool { return cells[i].Key >= key })
 	return at, at < len(cells) && cells[at].Key == key
 }
