@@ -176,6 +176,7 @@ func TestWritten(t *testing.T) {
 		}
 	}
 	laid(t, disk{}, u, all)
+	laid(t, disk{}, u, bitset.Below(9))
 	for _, free := range []bitset.Set{{}, set(0), set(1), set(0, 1)} {
 		refused(t, u, free)
 	}
